@@ -1,0 +1,1 @@
+"""Prints values, and tells all scannings of a text in order."""

@@ -113,3 +113,31 @@ def picked(counts, found, number):
             return (reading, left)
         left -= going_on
     raise NoSuchScanning("no scanning has this number")
+
+
+def number_among(steps, text, value):
+    """How many scannings a text has, and the number that a value has among
+    them; the text is the value's print."""
+    counts = counts_of(steps, text)
+    number = 0
+    index = len(steps) - 1
+    place = 0
+    told = 0
+    while index > 0:
+        reading, before = recognized(counts, readings(steps[index], text, place), value[told:])
+        number += before
+        told += len(reading[0])
+        place = reading[1]
+        index = reading[2]
+    return (counts[-1][0], number)
+
+
+def recognized(counts, found, numbers):
+    """The reading that the numbers begin with, and how many scannings go on
+    by those ahead of it."""
+    before = 0
+    for reading in found:
+        if numbers[:len(reading[0])] == reading[0]:
+            return (reading, before)
+        before += counts[reading[2]][reading[1]]
+    raise NoSuchScanning("the numbers begin with none of the readings")

@@ -1,7 +1,11 @@
 """What the tests have in common: formats, calls, and a plain second way
-to find all scannings and prints, against which the program is held."""
+to find all scannings, prints, furthest places and kept texts, against which
+the program is held."""
 
 from allscannings.formats import answers
+
+DIGITS = "0123456789"
+LETTERS = "abcdefghijklmnopqrstuvwxyz"
 
 
 def lit(text):
@@ -79,6 +83,26 @@ def raw_kth(number, numbers):
     return [4, number] + with_count(numbers)
 
 
+def raw_far(numbers):
+    return [5] + with_count(numbers)
+
+
+def raw_again(numbers):
+    return [6] + with_count(numbers)
+
+
+def least_call():
+    return [7]
+
+
+def ambiguous_call():
+    return [8]
+
+
+def texts_call(length):
+    return [9, length]
+
+
 def format_call(*row):
     return raw_format(row_list(row))
 
@@ -99,6 +123,14 @@ def kth_call(number, text):
     return raw_kth(number, text_list(text))
 
 
+def far_call(text):
+    return raw_far(text_list(text))
+
+
+def again_call(*value):
+    return raw_again(with_count(value))
+
+
 def run(*calls):
     """The answers to the calls, made on one object: a list for each."""
     line = [number for call in calls for number in call]
@@ -110,7 +142,6 @@ def run(*calls):
         place += 1 + given[place]
     assert place == len(given) and len(split) == len(calls)
     return split
-
 
 
 def scanned(*value):
@@ -189,7 +220,7 @@ def piece_print(piece, numbers):
     if kind == "word":
         assert piece[1] <= first <= piece[2]
         letters = [numbers.pop(0) for turn in range(first)]
-        return "".join("abcdefghijklmnopqrstuvwxyz"[letter] for letter in letters)
+        return "".join(LETTERS[letter] for letter in letters)
     if kind == "alternatives" or kind == "optional":
         assert first in (0, 1)
         rows = piece[1:] if kind == "alternatives" else ([], piece[1])
@@ -197,3 +228,81 @@ def piece_print(piece, numbers):
     assert piece[2] <= first <= piece[3]
     times = ["".join(piece_print(inner, numbers) for inner in piece[4]) for turn in range(first)]
     return piece[1].join(times)
+
+
+def plain_far(row, text):
+    """What far answers: each way is gone by itself, its lengths chosen ahead."""
+    done, stuck = row_goes(row, text, 0)
+    furthest = max(done + [place for place, wish in stuck])
+    wished = sorted({ord(sign) for place, wish in stuck if place == furthest for sign in wish})
+    return [furthest, int(furthest in done)] + with_count(wished)
+
+
+def row_goes(row, text, begin):
+    """The places behind a row, and where ways get stuck with what wish."""
+    places = [begin]
+    stuck = []
+    for piece in row:
+        gone = [piece_goes(piece, text, place) for place in places]
+        places = sorted({place for behind, stops in gone for place in behind})
+        stuck += [stop for behind, stops in gone for stop in stops]
+    return places, stuck
+
+
+def piece_goes(piece, text, place):
+    kind = piece[0]
+    if kind == "literal":
+        return wishes_go(piece[1], text, place)
+    if kind == "number":
+        first = DIGITS if piece[1] == piece[2] else DIGITS[1:]
+        plans = [[first] + [DIGITS] * (length - 1) for length in range(piece[1], piece[2] + 1)]
+        return both_go([wishes_go(plan, text, place) for plan in plans + [[DIGITS]] * (piece[1] == 1)])
+    if kind == "word":
+        return both_go([wishes_go([LETTERS] * length, text, place) for length in range(piece[1], piece[2] + 1)])
+    if kind == "alternatives":
+        return both_go([row_goes(inner, text, place) for inner in piece[1:]])
+    if kind == "optional":
+        return both_go([row_goes(inner, text, place) for inner in ([], piece[1])])
+    separator = [lit(piece[1])] if piece[1] else []
+    rows = [(piece[4] + separator) * (times - 1) + piece[4] if times else [] for times in range(piece[2], piece[3] + 1)]
+    return both_go([row_goes(inner, text, place) for inner in rows])
+
+
+def both_go(gone):
+    return [place for behind, stops in gone for place in behind], [stop for behind, stops in gone for stop in stops]
+
+
+def wishes_go(wishes, text, begin):
+    for place, wish in enumerate(wishes, begin):
+        if place == len(text) or text[place] not in wish:
+            return [], [(place, wish)]
+    return [begin + len(wishes)], []
+
+
+def plain_kept(row, most):
+    """The kept texts of each length, up to the greatest one."""
+    levels = [[""]]
+    for turn in range(most):
+        longer = []
+        for text in levels[-1]:
+            place, done, count, *wished = plain_far(row, text)
+            longer += [text + chr(byte) for byte in wished if place == len(text)]
+        levels.append(longer[:40])
+    return levels
+
+
+def plain_first(levels, counts, fewest):
+    """What least and ambiguous answer, by how many scannings each text has."""
+    for texts in levels[:6]:
+        for text in texts:
+            if counts[text] >= fewest:
+                return [1] + text_list(text)
+    return [0]
+
+
+def plain_texts(levels, counts, length):
+    """What texts answers."""
+    if length < 0 or length > 6:
+        return [-3]
+    many = [counts[text] for text in levels[length]]
+    return [len(many), sum(count >= 1 for count in many), sum(count >= 2 for count in many)]

@@ -3,13 +3,18 @@
 import unittest
 
 from allscannings.formats import answers
-from helper import count_call, format_call, kth_call, lit, num, opt, print_call, rep, run, scan_call, word
+from helper import (
+    again_call, ambiguous_call, count_call, far_call, format_call, kth_call, least_call, lit, num, opt, print_call, rep,
+    run, scan_call, texts_call, word)
 
 LINE = (
     format_call(rep(",", 0, 4, num(1, 1))) + print_call(2, 1, 2) + scan_call("1,2") + count_call("1,2")
-    + kth_call(0, "1,2") + kth_call(1, "1,2") + print_call(5) + [0, 1, 7] + [1, 1, 7] + [2, 1, 7] + scan_call("zz"))
+    + kth_call(0, "1,2") + kth_call(1, "1,2") + print_call(5) + [0, 1, 7] + [1, 1, 7] + [2, 1, 7] + scan_call("zz")
+    + far_call("1") + [5, 1, 7] + again_call(2, 1, 2) + again_call(5) + [6, 1, 7] + least_call() + ambiguous_call()
+    + texts_call(1) + texts_call(7) + texts_call(-1))
 GIVEN = [
-    2, 2, 5, 5, 1, 3, 49, 44, 50, 5, 1, 3, 2, 1, 2, 1, 1, 4, 3, 2, 1, 2, 1, -2, 1, 0, 1, -1, 1, -1, 1, -1, 1, 0]
+    2, 2, 5, 5, 1, 3, 49, 44, 50, 5, 1, 3, 2, 1, 2, 1, 1, 4, 3, 2, 1, 2, 1, -2, 1, 0, 1, -1, 1, -1, 1, -1, 1, 0,
+    4, 1, 1, 1, 44, 1, -1, 4, 1, 1, 1, 0, 1, 0, 1, -1, 2, 1, 0, 1, 0, 3, 10, 10, 0, 1, -3, 1, -3]
 
 
 class AnswersTest(unittest.TestCase):
@@ -37,6 +42,7 @@ class AnswersTest(unittest.TestCase):
     def test_nothing_is_kept(self):
         self.assertEqual(run(format_call(lit("x")), count_call("x")), [[1, 0], [1]])
         self.assertEqual(run(count_call("x"), count_call(""), print_call()), [[0], [1], [1, 0]])
+        self.assertEqual(run(far_call("x"), least_call(), texts_call(1)), [[0, 1, 0], [1, 0], [0, 0, 0]])
         for turn in range(2):
             self.assertEqual(answers(list(LINE)), GIVEN)
 
@@ -44,6 +50,8 @@ class AnswersTest(unittest.TestCase):
         calls = [format_call(lit("ab"), rep("cd", 0, 3, lit("e")))]
         calls += [print_call(3), scan_call("abecdecde")] * 3
         self.assertEqual(run(*calls)[1:], [[1, 9, 97, 98, 101, 99, 100, 101, 99, 100, 101], [1, 1, 3]] * 3)
+        calls = [calls[0]] + [far_call("abe"), least_call(), texts_call(2), texts_call(4)] * 3
+        self.assertEqual(run(*calls)[1:], [[3, 1, 1, 99], [1, 2, 97, 98], [1, 1, 0], [1, 0, 0]] * 3)
 
     def test_forty_calls(self):
         calls = []

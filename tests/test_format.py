@@ -3,8 +3,8 @@
 import unittest
 
 from helper import (
-    alt, count_call, format_call, kth_call, lit, num, opt, print_call, raw_count, raw_format, raw_print, rep, row_list,
-    run, scan_call, word)
+    again_call, alt, ambiguous_call, count_call, far_call, format_call, kth_call, least_call, lit, num, opt, print_call,
+    raw_again, raw_count, raw_far, raw_format, raw_print, rep, row_list, run, scan_call, texts_call, word)
 
 HUGE = 10 ** 18
 
@@ -220,10 +220,25 @@ class FormatTest(unittest.TestCase):
     def test_no_other_call_changes_it(self):
         others = [
             print_call(1, 2, 3), scan_call("zz"), count_call("zz"), kth_call(5, "zz"), raw_count([9]),
-            raw_print([9]), raw_print([1, -1]), kth_call(-1, "a")]
+            raw_print([9]), raw_print([1, -1]), kth_call(-1, "a"), far_call("a"), far_call("zz"), raw_far([9]),
+            again_call(0), again_call(7), raw_again([9]), least_call(), ambiguous_call(), texts_call(1), texts_call(6),
+            texts_call(-1), texts_call(7)]
         for other in others:
-            answers = run(format_call(opt(lit("a"))), other, scan_call("a"), count_call(""))
-            self.assertEqual([answers[0]] + answers[2:], [[2, 1], [1, 1, 1], [1]])
+            answers = run(
+                format_call(opt(lit("a"))), other, scan_call("a"), count_call(""), far_call(""), least_call(),
+                texts_call(1))
+            self.assertEqual(
+                [answers[0]] + answers[2:], [[2, 1], [1, 1, 1], [1], [0, 1, 1, 97], [1, 0], [1, 1, 0]], other)
+
+    def test_a_refused_format_changes_no_call(self):
+        row = [num(1, 1), opt(lit("a"))]
+        rest = [
+            print_call(5, 0), scan_call("5a"), count_call("5"), kth_call(0, "5a"), far_call("5"), again_call(5, 1),
+            least_call(), ambiguous_call(), texts_call(2)]
+        wanted = [
+            [1, 1, 53], [1, 2, 5, 1], [1], [2, 5, 1], [1, 1, 1, 97], [1, 1, 1, 0], [1, 1, 48], [0], [10, 10, 0]]
+        self.assertEqual(run(format_call(*row), *rest)[1:], wanted)
+        self.assertEqual(run(format_call(*row), raw_format([1, 6]), *rest)[1:], [[-1]] + wanted)
 
 
 if __name__ == "__main__":

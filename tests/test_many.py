@@ -3,7 +3,9 @@
 import time
 import unittest
 
-from helper import alt, count_call, format_call, kth_call, lit, num, opt, print_call, rep, run, scan_call, word
+from helper import (
+    DIGITS, LETTERS, again_call, alt, ambiguous_call, count_call, far_call, format_call, kth_call, least_call, lit, num,
+    opt, print_call, rep, run, scan_call, text_list, texts_call, word)
 
 SECONDS = 20
 
@@ -74,6 +76,36 @@ class ManyTest(unittest.TestCase):
             1 for code in range(4 ** 5) if sum(1 + code // 4 ** turn % 4 for turn in range(5)) == 15) + 4)])
         self.assertEqual(given[2], [1, 9, 4, 1111, 1111, 1111, 11, 1, 1, 0, 1])
         self.assertEqual(given[3], [1, 6] + [49] * 5 + [97])
+
+    def test_far_along_many_ways(self):
+        text = "a" * 24
+        given = self.answered(format_call(*[word(1, 4)] * 8), *[far_call(text)] * 39)
+        self.assertEqual(given[1:], [[24, 1] + text_list(LETTERS)] * 39)
+        given = self.answered(format_call(*[rep("", 0, 4)] * 8), *[far_call(""), far_call("a")] * 19)
+        self.assertEqual(given[1:], [[0, 1, 0]] * 38)
+        row = [rep("", 0, 3, opt(num(1, 4))), opt()]
+        given = self.answered(format_call(*row), far_call("1" * 12), far_call("1" * 13), far_call("1" * 11 + "a"))
+        self.assertEqual(given[1:], [[12, 1, 0], [12, 1, 0], [11, 1] + text_list(DIGITS)])
+
+    def test_again_of_many_scannings(self):
+        row = [rep("", 0, 4)] * 8
+        calls = [again_call(*[4] * 8), again_call(*[0] * 8), again_call(*[2] * 8), again_call(*[0] * 7, 1)] * 9
+        given = self.answered(format_call(*row), *calls)
+        self.assertEqual(
+            given[1:], [[1, 390625, 1, 0], [1, 390625, 0, 390624], [1, 390625, 0, 195312], [1, 390625, 0, 390623]] * 9)
+
+    def test_again_of_long_prints(self):
+        row = [rep("ssssssss", 4, 4, *[lit("abcdefgh")] * 13)]
+        self.assertEqual(self.answered(format_call(*row), *[again_call(4)] * 39)[1:], [[1, 1, 1, 0]] * 39)
+
+    def test_kept_texts_of_many_scannings(self):
+        row = [rep("", 0, 4, word(1, 4)), word(1, 4), word(1, 4), word(1, 4)]
+        given = self.answered(
+            format_call(*row), *[texts_call(6)] * 20, *[least_call()] * 9, *[ambiguous_call()] * 9)
+        self.assertEqual(
+            given[1:], [[40, 40, 40]] * 20 + [[1, 3, 97, 97, 97]] * 9 + [[1, 4, 97, 97, 97, 97]] * 9)
+        given = self.answered(format_call(*[rep("", 0, 4)] * 8), least_call(), ambiguous_call(), *[texts_call(6)] * 37)
+        self.assertEqual(given[1:], [[1, 0], [1, 0]] + [[0, 0, 0]] * 37)
 
 
 if __name__ == "__main__":

@@ -1,8 +1,8 @@
-"""The call print: prints of values, values without one, refusals."""
+"""The call print: prints of values, values without one; the refusals of values, again's too."""
 
 import unittest
 
-from helper import alt, format_call, lit, num, opt, print_call, raw_print, rep, run, text_list, word
+from helper import alt, again_call, format_call, lit, num, opt, print_call, raw_again, raw_print, rep, run, text_list, word
 
 HUGE = 10 ** 18
 
@@ -13,11 +13,12 @@ class PrintTest(unittest.TestCase):
 
     def shows_none(self, row, *values):
         for value in values:
-            self.assertEqual(run(format_call(*row), print_call(*value))[1], [0], (row, value))
+            given = run(format_call(*row), print_call(*value), again_call(*value))
+            self.assertEqual(given[1:], [[0], [0]], (row, value))
 
     def refused(self, numbers):
         for row in ([], [num(1, 4)], [word(1, 4)]):
-            self.assertEqual(run(format_call(*row), raw_print(numbers))[1], [-1], numbers)
+            self.assertEqual(run(format_call(*row), raw_print(numbers), raw_again(numbers))[1:], [[-1]] * 2, numbers)
 
     def test_no_pieces(self):
         self.assertEqual(run(print_call(), print_call(0), print_call(1)), [[1, 0], [0], [0]])
@@ -130,7 +131,9 @@ class PrintTest(unittest.TestCase):
         self.refused([HUGE, 1])
 
     def test_40_and_41_numbers(self):
-        self.assertEqual(run(print_call(*[0] * 40), print_call(*[9999] * 40)), [[0], [0]])
+        self.assertEqual(
+            run(print_call(*[0] * 40), print_call(*[9999] * 40), again_call(*[0] * 40), again_call(*[9999] * 40)),
+            [[0]] * 4)
         self.refused([41] + [0] * 41)
         self.refused([40] + [0] * 41)
         self.refused([41] + [0] * 40)

@@ -1,9 +1,9 @@
-"""The calls scan, count and kth: scannings, their order, refusals."""
+"""The calls scan, count and kth: scannings, their order; the refusals of texts, far's too."""
 
 import unittest
 
 from helper import (
-    alt, count_call, format_call, kth_call, lit, num, opt, raw_count, raw_kth, raw_scan, rep, run, scanned, scan_call,
+    alt, count_call, format_call, kth_call, lit, num, opt, raw_count, raw_far, raw_kth, raw_scan, rep, run, scanned, scan_call,
     text_list, with_count, word)
 
 HUGE = 10 ** 18
@@ -173,12 +173,14 @@ class RefusalTest(unittest.TestCase):
             calls = [format_call(*row), raw_scan(numbers), raw_count(numbers)]
             # Whether there's such a scanning isn't looked at then.
             calls += [raw_kth(number, numbers) for number in (0, 1, -1, HUGE, -HUGE)]
-            self.assertEqual(run(*calls)[1:], [[-1]] * 7, numbers)
+            calls.append(raw_far(numbers))
+            self.assertEqual(run(*calls)[1:], [[-1]] * 8, numbers)
 
     def taken(self, numbers, count):
         value = [0] if count else [-2]
         self.assertEqual(
-            run(raw_scan(numbers), raw_count(numbers), raw_kth(0, numbers)), [[1, 0] if count else [0], [count], value])
+            run(raw_scan(numbers), raw_count(numbers), raw_kth(0, numbers), raw_far(numbers)),
+            [[1, 0] if count else [0], [count], value, [0, 1, 0]])
 
     def test_lengths(self):
         self.taken([0], 1)
